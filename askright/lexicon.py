@@ -4,10 +4,17 @@ ATOM = 0
 ASKS_RIGHT = 1
 ASKS_LEFT = 2
 
+# Where a kind's form tells how it asks, what it gives and what it asks for.
+HOW = 0
+GIVEN = 1
+ASKED = 2
+
 MOST_KINDS = 256
 MOST_WORDS = 256
 MOST_WEIGHT = 12
+MOST_KINDS_OF_WORD = 4
 
+HAS_IT = -17
 NOT_VALID = -22
 NO_ROOM = -28
 TOO_HEAVY = -34
@@ -17,7 +24,6 @@ class Lexicon:
     """Kinds and words, each numbered from 0 in the order in which they came."""
 
     def __init__(self):
-        # A kind's form is how it asks, what it gives and what it asks for.
         self.forms = []
         self.weights = []
         # Of each word, the numbers of its kinds.
@@ -72,3 +78,18 @@ class Lexicon:
             return NO_ROOM
         self.words.append([])
         return number
+
+    def is_word(self, number):
+        return number < len(self.words)
+
+    def give(self, word, kind):
+        """Gives the word one more kind: 0, or a refusal."""
+        if not self.is_word(word) or not self.is_kind(kind):
+            return NOT_VALID
+        kinds = self.words[word]
+        if kind in kinds:
+            return HAS_IT
+        if len(kinds) >= MOST_KINDS_OF_WORD:
+            return NO_ROOM
+        kinds.append(kind)
+        return 0

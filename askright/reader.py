@@ -3,10 +3,12 @@
 START = 0
 KIND = 1
 WORD = 2
+GIVE = 3
+MANY = 4
+READING = 5
 
 # By a call's number: how many whole numbers follow it, ahead of its row.
 NUMBERS_BEHIND = (0, 3, 0, 2, 1, 2)
-CALLS_WITH_ROW = (4, 5)
 
 
 def read_calls(calls):
@@ -27,7 +29,7 @@ def read_calls(calls):
 
 def read_row(calls, call, row_at):
     """The row whose length stands at row_at; None for a call without one."""
-    if call not in CALLS_WITH_ROW:
+    if call != MANY and call != READING:
         return None
     first = row_at + 1
     return calls[first:first + calls[row_at]]

@@ -26,6 +26,7 @@ BANNED_NODES = tuple(getattr(ast, name) for name in """
 With AsyncWith AsyncFor AsyncFunctionDef Await Match Delete Global Nonlocal Assert Yield YieldFrom NamedExpr Starred
 SetComp DictComp GeneratorExp Import Div AnnAssign
 """.split())
+WALKED_AT_ONCE = ("zip", "enumerate", "reversed", "range", "items", "keys", "values", "set", "frozenset")
 PLAIN_NAME = re.compile(r"[A-Za-z][A-Za-z0-9_]*")
 
 
@@ -107,6 +108,33 @@ class Language(unittest.TestCase):
             for node in ast.walk(tree):
                 if isinstance(node, ast.Name) and node.id in dir(builtins):
                     self.assertIn(node.id, OWN_NAMES, (path.name, node.lineno))
+
+    def test_locals_are_not_called_like_a_class_or_an_import_of_their_file(self):
+        for path, tree in self.trees.items():
+            taken = {node.name for node in tree.body if isinstance(node, ast.ClassDef)}
+            taken |= {name.name for node in tree.body if isinstance(node, ast.ImportFrom) for name in node.names}
+            for function in ast.walk(tree):
+                if isinstance(function, ast.FunctionDef):
+                    self.assertEqual(taken & set(bound_names(function)), set(), (path.name, function.name))
+
+    def test_no_name_is_a_method_and_a_value(self):
+        methods = set()
+        given = set()
+        for tree in self.trees.values():
+            for node in ast.walk(tree):
+                if isinstance(node, ast.ClassDef):
+                    methods |= {inner.name for inner in node.body if isinstance(inner, ast.FunctionDef)}
+                if isinstance(node, ast.Attribute) and isinstance(node.ctx, ast.Store):
+                    given.add(node.attr)
+        self.assertEqual(methods & given, set())
+
+    def test_what_is_walked_is_not_kept(self):
+        for path, tree in self.trees.items():
+            for node in ast.walk(tree):
+                if isinstance(node, (ast.Assign, ast.Return)) and isinstance(node.value, ast.Call):
+                    called = node.value.func
+                    name = called.attr if isinstance(called, ast.Attribute) else getattr(called, "id", None)
+                    self.assertNotIn(name, WALKED_AT_ONCE, (path.name, node.lineno))
 
     def test_methods(self):
         allowed = OWN_METHODS | own_methods(self.trees.values())

@@ -2,7 +2,6 @@
 
 import unittest
 
-from askright.kinds import UnansweredCall, answers
 from askright.reader import read_calls
 
 
@@ -24,10 +23,10 @@ class ReadCalls(unittest.TestCase):
         expected = [(4, [1], []), (5, [1, 0], []), (4, [1], row), (5, [2, 3], row), (2, [], None)]
         self.assertEqual(read_calls(calls), expected)
 
-    def test_calls_without_an_answer_are_not_passed_over(self):
-        for calls in ([3, 0, 0], [4, 0, 0], [5, 0, 0, 0]):
-            with self.subTest(calls=calls):
-                self.assertRaises(UnansweredCall, answers, calls)
+    def test_numbers_of_a_row_are_not_taken_for_calls(self):
+        calls = [4, 5, 3, 1, 0, 2, 3, 4, 5, 5, 4, 4, 2, 0, 1, 0]
+        expected = [(4, [5], [1, 0, 2]), (3, [4, 5], None), (5, [4, 4], [0, 1]), (0, [], None)]
+        self.assertEqual(read_calls(calls), expected)
 
 
 if __name__ == "__main__":
